@@ -1,0 +1,117 @@
+"""The flat list: what is handed in and given back, and that nothing is changed, kept, printed or read."""
+
+import io
+import sys
+import unittest
+from contextlib import redirect_stdout
+from unittest import mock
+
+from helper import FORM, SIZE, add, flat, has, index, left, new, same
+from wholelattices.lattice import answers
+
+FOURTEEN = flat([
+    FORM, new(2, []), SIZE, add([2, 7]), add([0, 3]), FORM, has([2, 1]), has([1, 1]), left([-40, 40]), SIZE,
+    same([[2, 1], [0, -3]]), index([[4, 2], [0, 9]]), left([]), new(1, [[6], [-4]]),
+])
+TOLD = [
+    1, -9, 2, 0, 0, 2, 0, 1, 2, 0, 1, 2, 0, 2, 6, 0, 4, 2, 1, 0, 3, 4, 0, 2, 1, 0, 1, -2, 4, 0, 2, 0, 0, 2, 0, 36,
+    2, 0, 1, 2, 0, 6, 1, -1, 2, 0, 1,
+]
+
+
+def refuse(*ignored):
+    raise AssertionError("what is handed in is changed")
+
+
+class Untouchable(list):
+    """A list that can only be read."""
+
+    __setitem__ = __delitem__ = __iadd__ = __imul__ = refuse
+    append = clear = extend = insert = pop = remove = reverse = sort = refuse
+
+
+class FlatList(unittest.TestCase):
+    def test_fourteen_calls(self):
+        self.assertEqual(answers(FOURTEEN), TOLD)
+
+    def test_one_call(self):
+        self.assertEqual(answers([3]), [1, -9])
+        self.assertEqual(answers([1, 1, 0]), [2, 0, 0])
+        self.assertEqual(answers([1, 4294967295, 0]), [1, -1])
+        self.assertEqual(answers([7, 0]), [1, -9])
+
+    def test_rows_of_length_0(self):
+        self.assertEqual(
+            answers([1, 3, 0, 2, 0, 4, 0, 5, 0, 7, 0, 8, 0, 3]),
+            [2, 0, 0, 1, -1, 1, -1, 1, -1, 2, 0, 1, 2, 0, 1, 2, 0, 0],
+        )
+
+    def test_a_refused_calls_row_is_passed_over(self):
+        self.assertEqual(answers([2, 3, 1, 1, 0, 1, 2, 2, 0, 3, 3]), [1, -9, 2, 0, 1, 4, 0, 2, 0, 3])
+        self.assertEqual(answers([1, 0, 3, 3, 3, 3, 6, 1, 1, 1, 5, 6]), [1, -1, 1, -9, 2, 0, 1, 2, 0, 25])
+
+    def test_rows_that_look_like_calls(self):
+        self.assertEqual(answers([1, 1, 3, 3, 6, 9, 3]), [2, 0, 1, 3, 0, 1, 3])
+
+    def test_eight_hundred_numbers(self):
+        lattice = new(2, [[9, -9], [6, 3]] * 12)
+        handed = flat([lattice] * 13) + [4, 12] + [40] * 12
+        self.assertLessEqual(len(handed), 800)
+        self.assertEqual(answers(handed), [1, -1] * 13 + [1, -9])
+
+    def test_the_same_numbers_as_plain_whole_ones(self):
+        told = answers(FOURTEEN)
+        self.assertIs(type(told), list)
+        self.assertEqual({type(number) for number in told}, {int})
+
+
+class NothingElse(unittest.TestCase):
+    def test_what_is_handed_in_is_the_same_afterwards(self):
+        handed = list(FOURTEEN)
+        answers(handed)
+        self.assertEqual(handed, FOURTEEN)
+
+    def test_what_is_handed_in_is_not_changed_for_a_while_either(self):
+        self.assertEqual(answers(Untouchable(FOURTEEN)), TOLD)
+
+    def test_twice_in_a_row_gives_the_same(self):
+        first = answers(FOURTEEN)
+        second = answers(FOURTEEN)
+        self.assertEqual(first, second)
+        self.assertIsNot(first, second)
+
+    def test_what_is_given_back_is_the_callers_own(self):
+        answers(FOURTEEN).clear()
+        self.assertEqual(answers(FOURTEEN), TOLD)
+
+    def test_nothing_is_kept_from_one_time_to_the_next(self):
+        self.assertEqual(answers(new(2, [[1, 0], [0, 1]])), [2, 0, 2])
+        self.assertEqual(answers(FORM), [1, -9])
+        self.assertEqual(answers(add([1, 0])), [1, -9])
+
+    def test_nothing_is_printed_read_or_imported(self):
+        printed = io.StringIO()
+        before = set(sys.modules)
+        with redirect_stdout(printed), mock.patch("sys.stdin", None), mock.patch("builtins.open", refuse):
+            answers(FOURTEEN)
+        self.assertEqual(printed.getvalue(), "")
+        self.assertEqual(set(sys.modules), before)
+
+    def test_no_deep_recursion(self):
+        depth = 0
+        frame = sys._getframe()
+        while frame is not None:
+            depth += 1
+            frame = frame.f_back
+        limit = sys.getrecursionlimit()
+        handed = flat([new(3, [[1, 1, 0], [1, -1, 0], [0, 1, 1]] * 4)] + [SIZE] * 12 + [FORM])
+        try:
+            sys.setrecursionlimit(depth + 30)
+            told = answers(handed)
+        finally:
+            sys.setrecursionlimit(limit)
+        self.assertEqual(told, [2, 0, 3] + [2, 0, 4] * 12 + [11, 0, 9, 1, 0, 1, 0, 1, 1, 0, 0, 2])
+
+
+if __name__ == "__main__":
+    unittest.main()

@@ -1,0 +1,1 @@
+"""Lattices of whole vectors, exactly: wholelattices.lattice.answers is the way in."""

@@ -1,0 +1,148 @@
+"""The calls on a lattice of whole vectors, handed in and answered as flat lists of whole numbers."""
+
+from wholelattices.forms import all_in, divided, form_of, index_of, size_of
+
+MOST_PLACES = 3
+MOST_VECTORS = 12
+
+NO_LATTICE = -9
+BAD_HANDED = -1
+NOT_IN_IT = -2
+
+# A call's number: its name, whether a whole number comes first, and what its row is (None: it has no row).
+CALLS = {
+    1: ("new", True, "lattice"),
+    2: ("add", False, "vector"),
+    3: ("form", False, None),
+    4: ("has", False, "vector"),
+    5: ("left", False, "vector"),
+    6: ("size", False, None),
+    7: ("same", False, "lattice"),
+    8: ("index", False, "lattice"),
+}
+
+
+class Call:
+    """One call as it stands in the list, read from the place at which it begins."""
+
+    def __init__(self, calls, place):
+        kind = CALLS[calls[place]]
+        self.name = kind[0]
+        self.row_kind = kind[2]
+        self.number = 0
+        self.row = []
+        self.after = place + 1
+        if kind[1]:
+            self.number = calls[self.after]
+            self.after = self.after + 1
+        if self.row_kind is not None:
+            start = self.after + 1
+            self.after = start + calls[self.after]
+            self.row = calls[start:self.after]
+
+
+class Standing:
+    """The lattice that stands: its places and its form's rows. While there's none, n is 0."""
+
+    def __init__(self):
+        self.n = 0
+        self.rows = []
+
+
+def fits(call, n):
+    """Whether the call's row, if it has one, is a vector or a lattice of n places."""
+    if call.row_kind == "vector":
+        return len(call.row) == n
+    return len(call.row) % n == 0 and len(call.row) <= MOST_VECTORS * n
+
+
+def form_of_row(row, n):
+    """The form's rows of a lattice that is handed over as a row."""
+    return form_of([row[start:start + n] for start in range(0, len(row), n)], n)
+
+
+def stand(standing, n, rows):
+    """Lets the lattice of the form's rows stand from now on and answers its rank."""
+    standing.n = n
+    standing.rows = rows
+    return [0, len(rows)]
+
+
+def row_answer(row):
+    """The answer that is a row."""
+    return [0, len(row)] + row
+
+
+def flat(rows):
+    """The rows' numbers, one behind another."""
+    numbers = []
+    for row in rows:
+        numbers.extend(row)
+    return numbers
+
+
+def answer_new(standing, call):
+    """The answer to new, which alone needs no lattice and brings its own n."""
+    n = call.number
+    if n < 1 or n > MOST_PLACES or not fits(call, n):
+        return [BAD_HANDED]
+    return stand(standing, n, form_of_row(call.row, n))
+
+
+def answer_plain(rows, name):
+    """The answer to a call that has no row."""
+    if name == "form":
+        return row_answer(flat(rows))
+    return [0, size_of(rows)]
+
+
+def answer_vector(standing, name, vector):
+    """The answer to a call with a vector."""
+    if name == "add":
+        return stand(standing, standing.n, form_of(standing.rows + [vector], standing.n))
+    pair = divided(vector, standing.rows)
+    if name == "left":
+        return row_answer(pair[1])
+    if any(pair[1]):
+        return [NOT_IN_IT]
+    return row_answer(pair[0])
+
+
+def answer_lattice(rows, name, others):
+    """The answer to a call with a lattice, of which the others are the form's rows."""
+    if name == "same":
+        return [0, 1 if others == rows else 0]
+    if not all_in(others, rows):
+        return [NOT_IN_IT]
+    if len(others) != len(rows):
+        return [0, 0]
+    return [0, index_of(others, rows)]
+
+
+def answer_to(standing, call):
+    """The numbers that are answered to one call. A refusal leaves what stands as it was."""
+    if call.name == "new":
+        return answer_new(standing, call)
+    if standing.n == 0:
+        return [NO_LATTICE]
+    if not fits(call, standing.n):
+        return [BAD_HANDED]
+    if call.row_kind == "vector":
+        return answer_vector(standing, call.name, call.row)
+    if call.row_kind == "lattice":
+        return answer_lattice(standing.rows, call.name, form_of_row(call.row, standing.n))
+    return answer_plain(standing.rows, call.name)
+
+
+def answers(calls):
+    """For each call of the list, in order: how many numbers are answered, then these."""
+    standing = Standing()
+    told = []
+    place = 0
+    while place < len(calls):
+        call = Call(calls, place)
+        place = call.after
+        answer = answer_to(standing, call)
+        told.append(len(answer))
+        told.extend(answer)
+    return told
