@@ -1,4 +1,4 @@
-"""The package keeps to the small part of Python that LANGUAGE.md tells (those rules that can be seen in its text)."""
+"""The package keeps to the small part of Python that LANGUAGE.md tells; only part of its rules is checked here."""
 
 import ast
 import builtins
