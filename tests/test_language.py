@@ -117,6 +117,18 @@ class Code(unittest.TestCase):
             if isinstance(node, ast.FunctionDef):
                 self.assertTrue(node.name == "__init__" or not node.name.startswith("_"), where)
 
+    def test_locals_are_not_called_like_an_import_or_a_class_of_the_file(self):
+        for name, tree in trees():
+            taken = {node.name for node in tree.body if isinstance(node, ast.ClassDef)}
+            for node in tree.body:
+                if isinstance(node, ast.ImportFrom):
+                    taken.update(drawn.name for drawn in node.names)
+            for node in ast.walk(tree):
+                if isinstance(node, ast.arg):
+                    self.assertNotIn(node.arg, taken, f"{name}:{node.lineno}")
+                if isinstance(node, ast.Name) and isinstance(node.ctx, ast.Store):
+                    self.assertNotIn(node.id, taken, f"{name}:{node.lineno}")
+
     def test_methods(self):
         allowed = set(METHODS) | own_functions()
         for where, node in nodes():
